@@ -1,6 +1,9 @@
 package wave
 
-import "earshot/api"
+import (
+	"earshot/api"
+	"earshot/whole"
+)
 
 // mostParts is the greatest denominator of an emphasis.
 const mostParts = 1024
@@ -13,7 +16,7 @@ func Emphasize(x []int, num, den int) ([]int, api.Errno) {
 	y := make([]int, len(x))
 	before := 0
 	for i, value := range x {
-		y[i] = value - divide(num*before, den)
+		y[i] = value - whole.Divide(num*before, den)
 		before = value
 	}
 	return onlyValues(y)
@@ -28,7 +31,7 @@ func Restore(x []int, num, den int) ([]int, api.Errno) {
 	y := make([]int, len(x))
 	before := 0
 	for i, value := range x {
-		y[i] = value + divide(num*before, den)
+		y[i] = value + whole.Divide(num*before, den)
 		before = y[i]
 	}
 	return onlyValues(y)
@@ -39,7 +42,7 @@ func checkEmphasis(x []int, num, den int) api.Errno {
 	if e := checkValues(x); e != api.OK {
 		return e
 	}
-	if !within(den, 1, mostParts) || !within(num, 0, den) {
+	if !whole.Within(den, 1, mostParts) || !whole.Within(num, 0, den) {
 		return api.ErrArg
 	}
 	return api.OK
@@ -47,7 +50,7 @@ func checkEmphasis(x []int, num, den int) api.Errno {
 
 // onlyValues returns a result; ErrArg if an element is not a value.
 func onlyValues(y []int) ([]int, api.Errno) {
-	if !allWithin(y, -api.MaxValue, api.MaxValue) {
+	if !whole.AllWithin(y, -api.MaxValue, api.MaxValue) {
 		return nil, api.ErrArg
 	}
 	return y, api.OK

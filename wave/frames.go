@@ -4,6 +4,7 @@ import (
 	"iter"
 
 	"earshot/api"
+	"earshot/whole"
 )
 
 // mostElements is the greatest number of elements that all frames have together.
@@ -14,7 +15,7 @@ func Frames(x []int, size, step int, pad bool) ([][]int, api.Errno) {
 	if e := checkValues(x); e != api.OK {
 		return nil, e
 	}
-	if !within(size, 1, api.MaxFrame) || !within(step, 1, api.MaxFrame) {
+	if !whole.Within(size, 1, api.MaxFrame) || !whole.Within(step, 1, api.MaxFrame) {
 		return nil, api.ErrArg
 	}
 	count := frameCount(len(x), size, step, pad)
@@ -31,7 +32,7 @@ func Frames(x []int, size, step int, pad bool) ([][]int, api.Errno) {
 // frameCount returns how many frames n elements have.
 func frameCount(n, size, step int, pad bool) int {
 	if pad {
-		return divideUp(n, step)
+		return whole.DivideUp(n, step)
 	}
 	if n < size {
 		return 0

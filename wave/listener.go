@@ -1,6 +1,9 @@
 package wave
 
-import "earshot/api"
+import (
+	"earshot/api"
+	"earshot/whole"
+)
 
 // The bounds of gates and listeners.
 const (
@@ -45,10 +48,10 @@ func Listen(g api.Gate) (*Listener, api.Errno) {
 
 // validGate reports whether g is as a gate has to be.
 func validGate(g api.Gate) bool {
-	return within(g.Block, 1, api.MaxFrame) &&
-		within(g.High, 0, mostEnergy) && within(g.Low, 0, g.High) &&
-		within(g.Rise, 1, mostRun) && within(g.Fall, 1, mostRun) && within(g.Lead, 0, mostLead) &&
-		within(g.Longest, g.Rise+g.Fall+g.Lead, mostBlocks)
+	return whole.Within(g.Block, 1, api.MaxFrame) &&
+		whole.Within(g.High, 0, mostEnergy) && whole.Within(g.Low, 0, g.High) &&
+		whole.Within(g.Rise, 1, mostRun) && whole.Within(g.Fall, 1, mostRun) && whole.Within(g.Lead, 0, mostLead) &&
+		whole.Within(g.Longest, g.Rise+g.Fall+g.Lead, mostBlocks)
 }
 
 // isMissing reports whether there is no listener.

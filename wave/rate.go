@@ -1,6 +1,9 @@
 package wave
 
-import "earshot/api"
+import (
+	"earshot/api"
+	"earshot/whole"
+)
 
 // mostChange is the greatest factor by which a rate is multiplied or divided.
 const mostChange = 16
@@ -10,30 +13,27 @@ func Resample(r api.Recording, up, down int) (api.Recording, api.Errno) {
 	if e := checkRecording(r); e != api.OK {
 		return api.Recording{}, e
 	}
-	if !within(up, 1, mostChange) || !within(down, 1, mostChange) {
+	if !whole.Within(up, 1, mostChange) || !whole.Within(down, 1, mostChange) {
 		return api.Recording{}, api.ErrArg
 	}
 	product := r.Rate * up
 	if product%down != 0 || product/down > api.MaxRate {
 		return api.Recording{}, api.ErrArg
 	}
-	count := divideUp(len(r.Samples)*up, down)
+	count := whole.DivideUp(len(r.Samples)*up, down)
 	if count > api.MaxSamples {
 		return api.Recording{}, api.ErrLong
 	}
 	return api.Recording{Rate: product / down, Samples: interpolate(r.Samples, up, down, count)}, api.OK
 }
 
-// divideUp returns the least integer that is not less than a / b, for a that is not negative and b that is positive.
-func divideUp(a, b int) int { return (a + b - 1) / b }
-
 // interpolate returns so many samples as count says, at the distance down / up.
 func interpolate(x []int, up, down, count int) []int {
-	smoothed := smooth(x, divideUp(down, up))
+	smoothed := smooth(x, whole.DivideUp(down, up))
 	samples := make([]int, count)
 	for j := range samples {
 		i, part := j*down/up, j*down%up
-		samples[j] = divide(smoothed[i]*(up-part)+smoothed[i+1]*part, up)
+		samples[j] = whole.Divide(smoothed[i]*(up-part)+smoothed[i+1]*part, up)
 	}
 	return samples
 }
@@ -50,7 +50,7 @@ func smooth(x []int, width int) []int {
 	}
 	means := make([]int, len(x)+1)
 	for i := range means {
-		means[i] = divide(sum, width)
+		means[i] = whole.Divide(sum, width)
 		sum += at(i+width) - at(i)
 	}
 	return means

@@ -4,6 +4,7 @@ import (
 	"slices"
 
 	"earshot/api"
+	"earshot/whole"
 )
 
 // Segments returns all segments of a list of samples; ErrArg if the gate or a sample is wrong.
@@ -28,7 +29,7 @@ func Clip(r api.Recording, s api.Segment) (api.Recording, api.Errno) {
 	if e := checkRecording(r); e != api.OK {
 		return api.Recording{}, e
 	}
-	if !within(s.To, 0, len(r.Samples)) || !within(s.From, 0, s.To) {
+	if !whole.Within(s.To, 0, len(r.Samples)) || !whole.Within(s.From, 0, s.To) {
 		return api.Recording{}, api.ErrArg
 	}
 	return api.Recording{Rate: r.Rate, Samples: slices.Clone(r.Samples[s.From:s.To])}, api.OK

@@ -1,6 +1,9 @@
 package wave
 
-import "earshot/api"
+import (
+	"earshot/api"
+	"earshot/whole"
+)
 
 // fullWeight is the weight with which an element stays as it is.
 const fullWeight = 4096
@@ -23,16 +26,16 @@ func shapes() []shape {
 func flat(d, edge int) int { return fullWeight }
 
 func triangle(d, edge int) int {
-	return divide(fullWeight*(edge-max(d, -d)), edge)
+	return whole.Divide(fullWeight*(edge-max(d, -d)), edge)
 }
 
 func welch(d, edge int) int {
-	return divide(fullWeight*(edge*edge-d*d), edge*edge)
+	return whole.Divide(fullWeight*(edge*edge-d*d), edge*edge)
 }
 
 // Window returns the weights of a window; ErrArg if there is no such kind or size.
 func Window(kind api.WindowKind, size int) ([]int, api.Errno) {
-	if !within(size, 1, api.MaxFrame) {
+	if !whole.Within(size, 1, api.MaxFrame) {
 		return nil, api.ErrArg
 	}
 	for _, s := range shapes() {
@@ -63,7 +66,7 @@ func Weigh(frame []int, kind api.WindowKind) ([]int, api.Errno) {
 	}
 	weighed := make([]int, len(frame))
 	for i, weight := range weights {
-		weighed[i] = divide(frame[i]*weight, fullWeight)
+		weighed[i] = whole.Divide(frame[i]*weight, fullWeight)
 	}
 	return weighed, api.OK
 }

@@ -4,6 +4,7 @@ import (
 	"slices"
 
 	"earshot/api"
+	"earshot/lists"
 	"earshot/whole"
 )
 
@@ -17,23 +18,14 @@ func copyVectors(v [][]int) [][]int {
 	return list
 }
 
-// combine returns what f makes of the elements of a and b, which are equally many.
-func combine[T any](a, b []T, f func(x, y T) T) []T {
-	list := make([]T, len(a))
-	for i, x := range a {
-		list[i] = f(x, b[i])
-	}
-	return list
-}
-
 // add returns a + b.
 func add(a, b []int) []int {
-	return combine(a, b, func(x, y int) int { return x + y })
+	return lists.Combine(a, b, func(x, y int) int { return x + y })
 }
 
 // subtract returns a - b.
 func subtract(a, b []int) []int {
-	return combine(a, b, func(x, y int) int { return x - y })
+	return lists.Combine(a, b, func(x, y int) int { return x - y })
 }
 
 // mean returns the mean of at least one vector.

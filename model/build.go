@@ -5,6 +5,7 @@ import (
 
 	"earshot/api"
 	"earshot/frac"
+	"earshot/numbers"
 	"earshot/whole"
 )
 
@@ -16,23 +17,17 @@ func Left(states, symbols int) (api.Model, api.Errno) {
 	m := blank(states, symbols)
 	m.Start[0] = frac.Of(1)
 	for i := range states {
-		m.Move[i][i] = part(2)
+		m.Move[i][i] = numbers.Ratio(1, 2)
 		if i+1 < states {
-			m.Move[i][i+1] = part(2)
+			m.Move[i][i+1] = numbers.Ratio(1, 2)
 		} else {
-			m.End[i] = part(2)
+			m.End[i] = numbers.Ratio(1, 2)
 		}
 		for k := range symbols {
-			m.Say[i][k] = part(symbols)
+			m.Say[i][k] = numbers.Ratio(1, symbols)
 		}
 	}
 	return m, api.OK
-}
-
-// part returns 1 / n, for n that is not 0.
-func part(n int) api.Frac {
-	a, _ := frac.Make(1, n)
-	return a
 }
 
 // Join returns the model that goes through models one after the other; ErrArg if there are none, or if they have different symbols, ErrLong if there are too many states.
@@ -54,7 +49,7 @@ func join(a, b api.Model) api.Model {
 	clear(m.Start[states:])
 	clear(m.End[:states])
 	for i, end := range a.End {
-		copy(m.Move[i][states:], multiply(b.Start, end))
+		copy(m.Move[i][states:], numbers.Multiply(b.Start, end))
 	}
 	return m
 }
@@ -67,7 +62,7 @@ func Mix(weights []api.Frac, models ...api.Model) (api.Model, api.Errno) {
 	}
 	var mixed api.Model
 	for n, m := range models {
-		m.Start = multiply(m.Start, weights[n])
+		m.Start = numbers.Multiply(m.Start, weights[n])
 		mixed = beside(mixed, m)
 	}
 	return rebuild(mixed, canonical), api.OK

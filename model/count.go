@@ -4,6 +4,7 @@ import (
 	"earshot/api"
 	"earshot/frac"
 	"earshot/lists"
+	"earshot/numbers"
 )
 
 // Posterior returns the posterior weights of a recording; ErrNone if its likelihood is 0.
@@ -17,7 +18,7 @@ func Posterior(m api.Model, o []int) ([][]api.Frac, api.Errno) {
 	if len(all.N) == 0 {
 		return nil, api.ErrNone
 	}
-	return lists.Map(through, func(row []api.Frac) []api.Frac { return divide(row, all) }), api.OK
+	return lists.Map(through, func(row []api.Frac) []api.Frac { return numbers.Divide(row, all) }), api.OK
 }
 
 // total returns the weight of all paths, given the weights of those through each state at each frame: every path goes through a state at the first frame.
@@ -58,7 +59,7 @@ func Few(m api.Model, o []int, keep int) (api.Counts, api.Frac, api.Errno) {
 	if kept.Used == 0 {
 		return api.Counts{}, api.Frac{}, api.ErrNone
 	}
-	lost := frac.Sub(frac.Of(1), quotient(kept.unit, s.likelihood()))
+	lost := frac.Sub(frac.Of(1), numbers.Quotient(kept.unit, s.likelihood()))
 	return kept.shares(), lost, api.OK
 }
 
@@ -125,8 +126,8 @@ func (s scaled) count(keep func(row []api.Frac) []api.Frac) tally {
 func (s scaled) countMoves(from int, row []api.Frac, fore, back pass) {
 	for to, move := range s.move[from] {
 		if len(move.N) > 0 {
-			row[to] = times(move, sum(len(s.recording)-1, func(t int) api.Frac {
-				return times(fore.spoken[t][from], back.spoken[t+1][to])
+			row[to] = numbers.Times(move, sum(len(s.recording)-1, func(t int) api.Frac {
+				return numbers.Times(fore.spoken[t][from], back.spoken[t+1][to])
 			}))
 		}
 	}
@@ -142,9 +143,9 @@ func unlessZero(x, y api.Frac) api.Frac {
 
 // add returns the sum of two tallies for the same model.
 func (a tally) add(b tally) tally {
-	unit := commonMultiple(a.unit, b.unit)
-	p, q := quotient(unit, a.unit), quotient(unit, b.unit)
-	add := func(x, y api.Frac) api.Frac { return frac.Add(times(x, p), times(y, q)) }
+	unit := numbers.Multiple(a.unit, b.unit)
+	p, q := numbers.Quotient(unit, a.unit), numbers.Quotient(unit, b.unit)
+	add := func(x, y api.Frac) api.Frac { return frac.Add(numbers.Times(x, p), numbers.Times(y, q)) }
 	addRows := func(x, y []api.Frac) []api.Frac { return lists.Combine(x, y, add) }
 	return tally{api.Counts{
 		Start:  addRows(a.Start, b.Start),
@@ -158,7 +159,7 @@ func (a tally) add(b tally) tally {
 
 // shares returns the counts without their unit.
 func (a tally) shares() api.Counts {
-	share := func(row []api.Frac) []api.Frac { return divide(row, a.unit) }
+	share := func(row []api.Frac) []api.Frac { return numbers.Divide(row, a.unit) }
 	return api.Counts{
 		Start:  share(a.Start),
 		Move:   lists.Map(a.Move, share),

@@ -6,6 +6,7 @@ import (
 	"earshot/api"
 	"earshot/frac"
 	"earshot/lists"
+	"earshot/numbers"
 )
 
 // Forward returns the forward weights of a recording.
@@ -16,7 +17,7 @@ func Forward(m api.Model, o []int) ([][]api.Frac, api.Errno) {
 	s := scale(m, o)
 	weights := s.forward(s.say).spoken
 	for t, row := range weights {
-		weights[t] = divide(row, s.together(1, t, t+1))
+		weights[t] = numbers.Divide(row, s.together(1, t, t+1))
 	}
 	return weights, api.OK
 }
@@ -29,7 +30,7 @@ func Backward(m api.Model, o []int) ([][]api.Frac, api.Errno) {
 	s := scale(m, o)
 	weights := s.backward(frac.Sum, s.say).silent
 	for t, row := range weights {
-		weights[t] = divide(row, s.together(0, len(o)-t, len(o)-t-1))
+		weights[t] = numbers.Divide(row, s.together(0, len(o)-t, len(o)-t-1))
 	}
 	return weights, api.OK
 }
@@ -40,7 +41,7 @@ func Likelihood(m api.Model, o []int) (api.Frac, api.Errno) {
 		return api.Frac{}, e
 	}
 	s := scale(m, o)
-	return quotient(s.likelihood(), s.together(1, len(o), len(o))), api.OK
+	return numbers.Quotient(s.likelihood(), s.together(1, len(o), len(o))), api.OK
 }
 
 // likelihood returns the sum of the weights of all paths.
@@ -49,7 +50,7 @@ func (s scaled) likelihood() api.Frac {
 		return api.Frac{}
 	}
 	last := s.forward(s.say).spoken[len(s.recording)-1]
-	return sum(len(last), func(i int) api.Frac { return times(last[i], s.end[i]) })
+	return sum(len(last), func(i int) api.Frac { return numbers.Times(last[i], s.end[i]) })
 }
 
 // direction is a way through a recording: its frames in this order, the weights of the states at the first one of these frames, and, for each state, the weights with which it is reached from the states of the frame before.
@@ -83,7 +84,7 @@ func (s scaled) pass(d direction, join func(l ...api.Frac) api.Frac, say func(t 
 		row := d.first
 		if before != nil {
 			row = lists.Map(d.reach, func(from []api.Frac) api.Frac {
-				return over(len(from), join, func(i int) api.Frac { return times(from[i], before[i]) })
+				return over(len(from), join, func(i int) api.Frac { return numbers.Times(from[i], before[i]) })
 			})
 		}
 		before = say(t, row)
@@ -98,7 +99,7 @@ func (s scaled) say(t int, row []api.Frac) []api.Frac {
 }
 
 // timesRow returns the products of the elements of two rows.
-func timesRow(a, b []api.Frac) []api.Frac { return lists.Combine(a, b, times) }
+func timesRow(a, b []api.Frac) []api.Frac { return lists.Combine(a, b, numbers.Times) }
 
 // over joins the numbers that f returns for 0 to n - 1, without those that are 0.
 func over(n int, join func(l ...api.Frac) api.Frac, f func(i int) api.Frac) api.Frac {

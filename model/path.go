@@ -3,6 +3,7 @@ package model
 import (
 	"earshot/api"
 	"earshot/frac"
+	"earshot/numbers"
 	"earshot/whole"
 )
 
@@ -46,7 +47,7 @@ func Best(m api.Model, o []int) ([]int, api.Frac, api.Errno) {
 
 // bestPath returns the best path, or any path if there is none. It looks for the greatest weights from the end on, so that it can take the first one of the best states at each frame, which makes the path the first one of the best.
 func (s scaled) bestPath() []int {
-	ahead := s.backward(greatest, s.say).spoken
+	ahead := s.backward(numbers.Greatest, s.say).spoken
 	path := make([]int, len(s.recording))
 	next := s.start
 	for t := range upwards(len(path)) {
@@ -54,14 +55,6 @@ func (s scaled) bestPath() []int {
 		next = s.move[path[t]]
 	}
 	return path
-}
-
-// greatest returns the greatest one of numbers that are not negative, 0 if there are none.
-func greatest(l ...api.Frac) api.Frac {
-	if len(l) == 0 {
-		return api.Frac{}
-	}
-	return l[frac.Best(l...)]
 }
 
 // Spans returns the longest pieces of a list that consist of equal numbers.

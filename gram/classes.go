@@ -4,13 +4,14 @@ import (
 	"slices"
 
 	"earshot/api"
+	"earshot/checks"
 	"earshot/frac"
 	"earshot/lists"
 	"earshot/whole"
 )
 
 // CheckClasses returns ErrArg for classes that are not valid.
-func CheckClasses(c api.Classes) api.Errno { return argument(areClasses(c)) }
+func CheckClasses(c api.Classes) api.Errno { return checks.Argument(areClasses(c)) }
 
 func areClasses(c api.Classes) bool {
 	if len(c.Of) != len(c.In) || !whole.Within(len(c.Of), 1, api.MaxWords) || !whole.AllWithin(c.Of, 1, api.MaxWords) {
@@ -32,7 +33,7 @@ func areClasses(c api.Classes) bool {
 func Classed(l api.Language, c api.Classes, history []int, w int) (api.Frac, api.Errno) {
 	words := len(c.Of)
 	fits := whole.AllWithin(c.Of, 1, l.Table.Words) && isHistory(history, l.Table.Order, words) && whole.Within(w, 0, words)
-	if e := first(Check(l), CheckClasses(c), argument(fits)); e != api.OK {
+	if e := checks.First(Check(l), CheckClasses(c), checks.Argument(fits)); e != api.OK {
 		return api.Frac{}, e
 	}
 	of := slices.Concat([]int{0}, c.Of) // the mark stands for itself

@@ -4,6 +4,7 @@ import (
 	"slices"
 
 	"earshot/api"
+	"earshot/checks"
 	"earshot/frac"
 	"earshot/lists"
 	"earshot/numbers"
@@ -15,7 +16,7 @@ func CheckGrammar(g api.Grammar) api.Errno {
 	if len(g.Rules) > api.MaxSteps {
 		return api.ErrLong
 	}
-	return argument(whole.Within(g.Labels, 1, api.MaxLabels) && whole.Within(g.Words, 1, api.MaxWords) && areProductions(g))
+	return checks.Argument(whole.Within(g.Labels, 1, api.MaxLabels) && whole.Within(g.Words, 1, api.MaxWords) && areProductions(g))
 }
 
 // areProductions reports whether the rules of a grammar are as defined, for its nonterminals and its words.
@@ -66,7 +67,7 @@ func Best(g api.Grammar, s []int) ([]int, api.Frac, api.Errno) {
 
 // Derive returns the sentence of a derivation and its weight; ErrArg also if the list is no derivation.
 func Derive(g api.Grammar, rules []int) ([]int, api.Frac, api.Errno) {
-	if e := first(CheckGrammar(g), argument(whole.AllWithin(rules, 0, len(g.Rules)-1) && len(rules) > 0)); e != api.OK {
+	if e := checks.First(CheckGrammar(g), checks.Argument(whole.AllWithin(rules, 0, len(g.Rules)-1) && len(rules) > 0)); e != api.OK {
 		return nil, api.Frac{}, e
 	}
 	var s []int
@@ -86,7 +87,7 @@ func Derive(g api.Grammar, rules []int) ([]int, api.Frac, api.Errno) {
 
 // checkSaying returns the error of a grammar and of a sentence of its words.
 func checkSaying(g api.Grammar, s []int) api.Errno {
-	return first(CheckGrammar(g), checkSentence(s, g.Words))
+	return checks.First(CheckGrammar(g), checkSentence(s, g.Words))
 }
 
 // marked returns a sentence with the mark behind it, which stands for the rule that ends it.
@@ -94,7 +95,7 @@ func marked(s []int) []int { return slices.Concat(s, []int{0}) }
 
 // weightOf returns the weight of a derivation.
 func weightOf(g api.Grammar, rules []int) api.Frac {
-	return product(lists.Map(rules, func(n int) api.Frac { return g.Rules[n].Weight }))
+	return numbers.ProductOf(lists.Map(rules, func(n int) api.Frac { return g.Rules[n].Weight }))
 }
 
 // way says which rules can be used: those of a nonterminal for a word, or for the mark.

@@ -4,6 +4,7 @@ import (
 	"slices"
 
 	"earshot/api"
+	"earshot/checks"
 	"earshot/frac"
 	"earshot/whole"
 )
@@ -13,7 +14,7 @@ func Check(l api.Language) api.Errno {
 	if e := CheckTable(l.Table); e != api.OK {
 		return e
 	}
-	return argument(isSmoothed(l))
+	return checks.Argument(isSmoothed(l))
 }
 
 // isSmoothed reports whether the smoothing of a language model is as defined, if its table is valid.
@@ -63,7 +64,7 @@ func Next(l api.Language, history []int, w int) ([]int, api.Errno) {
 // checkStep returns the error of a language model, of a history, and of a number after it, which is at least least.
 func checkStep(l api.Language, history []int, w, least int) api.Errno {
 	words := l.Table.Words
-	return first(Check(l), argument(isHistory(history, l.Table.Order, words) && whole.Within(w, least, words)))
+	return checks.First(Check(l), checks.Argument(isHistory(history, l.Table.Order, words) && whole.Within(w, least, words)))
 }
 
 func isHistory(history []int, order, words int) bool {

@@ -2,6 +2,7 @@ package gram
 
 import (
 	"earshot/api"
+	"earshot/checks"
 	"earshot/frac"
 	"earshot/lists"
 	"earshot/numbers"
@@ -9,7 +10,7 @@ import (
 
 // Sentence returns the weight of a sentence.
 func Sentence(l api.Language, s []int) (api.Frac, api.Errno) {
-	if e := first(Check(l), checkSentence(s, l.Table.Words)); e != api.OK {
+	if e := checks.First(Check(l), checkSentence(s, l.Table.Words)); e != api.OK {
 		return api.Frac{}, e
 	}
 	return weigh(l, s)[0], api.OK
@@ -18,7 +19,7 @@ func Sentence(l api.Language, s []int) (api.Frac, api.Errno) {
 // Usual returns 1 if a is more usual than b, -1 if b is more usual than a, 0 otherwise.
 func Usual(l api.Language, a, b []int) (int, api.Errno) {
 	words := l.Table.Words
-	if e := first(Check(l), checkSentence(a, words), checkSentence(b, words)); e != api.OK {
+	if e := checks.First(Check(l), checkSentence(a, words), checkSentence(b, words)); e != api.OK {
 		return 0, e
 	}
 	weights := weigh(l, a, b)
@@ -40,7 +41,7 @@ func weigh(l api.Language, sentences ...[]int) []api.Frac {
 		for gram := range grams(l.Table.Order, s) {
 			weights = append(weights, m.weight(split(gram)))
 		}
-		return product(weights)
+		return numbers.ProductOf(weights)
 	})
 }
 

@@ -5,6 +5,7 @@ import (
 	"slices"
 
 	"earshot/api"
+	"earshot/checks"
 	"earshot/whole"
 )
 
@@ -13,7 +14,7 @@ func CheckTable(t api.Table) api.Errno {
 	if len(t.List) > api.MaxGrams {
 		return api.ErrLong
 	}
-	return argument(isShape(t.Order, t.Words) && areGrams(t))
+	return checks.Argument(isShape(t.Order, t.Words) && areGrams(t))
 }
 
 // isShape reports whether there are tables of an order for so many words.
@@ -36,9 +37,9 @@ func areGrams(t api.Table) bool {
 
 // Count returns the table of the n-grams of sentences.
 func Count(order, words int, sentences ...[]int) (api.Table, api.Errno) {
-	e := argument(isShape(order, words))
+	e := checks.Argument(isShape(order, words))
 	for _, s := range sentences {
-		e = first(e, checkSentence(s, words))
+		e = checks.First(e, checkSentence(s, words))
 	}
 	if e != api.OK {
 		return api.Table{}, e
@@ -75,7 +76,7 @@ func (seen tally) table(order, words int) (api.Table, api.Errno) {
 
 // Merge returns the table in which the N of equal n-grams of two tables are added; ErrArg if they have different orders or numbers of words, or if a sum is too great.
 func Merge(a, b api.Table) (api.Table, api.Errno) {
-	e := first(CheckTable(a), CheckTable(b), argument(a.Order == b.Order && a.Words == b.Words))
+	e := checks.First(CheckTable(a), CheckTable(b), checks.Argument(a.Order == b.Order && a.Words == b.Words))
 	if e != api.OK {
 		return api.Table{}, e
 	}
@@ -88,7 +89,7 @@ func Merge(a, b api.Table) (api.Table, api.Errno) {
 
 // Lower returns the lower table; ErrArg if the order is 1, or if a sum is too great.
 func Lower(t api.Table) (api.Table, api.Errno) {
-	if e := first(CheckTable(t), argument(t.Order > 1)); e != api.OK {
+	if e := checks.First(CheckTable(t), checks.Argument(t.Order > 1)); e != api.OK {
 		return api.Table{}, e
 	}
 	seen := tally{}

@@ -75,3 +75,12 @@ func Multiply(row []api.Frac, factor api.Frac) []api.Frac {
 func Divide(row []api.Frac, by api.Frac) []api.Frac {
 	return lists.Map(row, func(x api.Frac) api.Frac { return Quotient(x, by) })
 }
+
+// ProductOf returns the product of any number of weights. It multiplies products of halves, because one weight after the other would be multiplied by longer and longer numbers.
+func ProductOf(weights []api.Frac) api.Frac {
+	if len(weights) <= 100 {
+		return frac.Product(weights...)
+	}
+	half := len(weights) / 2
+	return frac.Mul(ProductOf(weights[:half]), ProductOf(weights[half:]))
+}

@@ -18,7 +18,7 @@ func leadingOf(a api.Frac) leading {
 	n, d := firstBits(a.N), firstBits(bottom(a).N)
 	if n.head < d.head {
 		head, _ := bits.Div64(n.head, 0, d.head)
-		return leading{head, n.exponent - d.exponent - 64}.normal()
+		return leading{head, n.exponent - d.exponent - 64}
 	}
 	head, _ := bits.Div64(n.head>>1, n.head<<63, d.head)
 	return leading{head, n.exponent - d.exponent - 63}
@@ -35,15 +35,7 @@ func firstBits(digits []uint32) leading {
 	}
 	head := uint64(top[0])<<32 | uint64(top[1])
 	shift := bits.LeadingZeros32(top[0])
-	return leading{head<<shift | uint64(top[2])>>(32-shift), 32*(len(digits)-2) - shift}.normal()
-}
-
-// normal gives 0 one form only.
-func (a leading) normal() leading {
-	if a.head == 0 {
-		return leading{}
-	}
-	return a
+	return leading{head<<shift | uint64(top[2])>>(32-shift), 32*(len(digits)-2) - shift}
 }
 
 // times returns a times b, less wrong by the multiplication than one part in 2 to the power 63.
@@ -53,7 +45,7 @@ func (a leading) times(b leading) leading {
 	if head>>63 == 0 {
 		head, exponent = head<<1|rest>>63, exponent-1
 	}
-	return leading{head, exponent}.normal()
+	return leading{head, exponent}
 }
 
 // compare returns the sign of a - b, or 0 if the heads do not differ by more than some units.

@@ -23,7 +23,7 @@ func (f *Factor) Exact() api.Frac { return f.exact }
 
 // equal reports whether two factors look alike. Then they are equal.
 func (f *Factor) equal(g *Factor) bool {
-	return f == g || f.first == g.first && slices.Equal(f.exact.N, g.exact.N) && slices.Equal(f.exact.D, g.exact.D)
+	return f == g || slices.Equal(f.exact.N, g.exact.N) && slices.Equal(f.exact.D, g.exact.D)
 }
 
 // Product is a product of factors. Only its first bits are computed, and the factors are kept: to compare two products, these bits nearly always suffice, and otherwise only those factors are multiplied in which the products differ. The zero Product is the number 0.

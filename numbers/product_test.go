@@ -104,6 +104,9 @@ func TestNearProducts(t *testing.T) {
 			nudge = frac.Add(nudge, frac.Canon(api.Frac{Neg: n == 1, N: []uint32{1}, D: append(make([]uint32, digits), 5+r.Uint32()>>r.Intn(30))}))
 		}
 		other = append(other, numbers.FactorOf(nudge))
+		if r.Intn(2) == 0 { // as many factors in both lists
+			list = slices.Insert(list, r.Intn(len(list)+1), numbers.FactorOf(frac.Of(1)))
+		}
 		p, q := common.Times(list...), common.Times(other...)
 		want := 0
 		if frac.Sign(begin) > 0 {

@@ -1,11 +1,9 @@
 package decode
 
 import (
-	"slices"
-
 	"earshot/api"
-	"earshot/gram"
 	"earshot/numbers"
+	"earshot/speech"
 	"earshot/whole"
 )
 
@@ -17,7 +15,7 @@ func Weight(t api.Task, o []int, trace []api.Point) (api.Frac, api.Errno) {
 	if len(trace) != len(o) || !isTrace(t, trace) {
 		return api.Frac{}, api.ErrArg
 	}
-	weights := said(t.Language, Words(trace))
+	weights := speech.Weights(t.Language, Words(trace))
 	for i, p := range trace {
 		weights = append(weights, modelOf(t, p).Say[p.State][o[i]])
 		weights = append(weights, steps(t, trace[:i], p)...)
@@ -27,18 +25,6 @@ func Weight(t api.Task, o []int, trace []api.Point) (api.Frac, api.Errno) {
 		weights = append(weights, modelOf(t, last).End[last.State])
 	}
 	return numbers.ProductOf(weights), api.OK
-}
-
-// said returns the weights of a sentence of any length: of its words and of the mark behind it.
-func said(l api.Language, s []int) []api.Frac {
-	marked := slices.Concat(make([]int, l.Table.Order-1), s, []int{0})
-	var weights []api.Frac
-	for i := range len(s) + 1 {
-		last := i + l.Table.Order - 1
-		w, _ := gram.Weight(l, marked[i:last], marked[last])
-		weights = append(weights, w)
-	}
-	return weights
 }
 
 // steps returns the weights of the steps to a point that comes after others, without those of its word and of its symbol.

@@ -18,3 +18,12 @@ func Combine[T any](a, b []T, f func(x, y T) T) []T {
 	}
 	return list
 }
+
+// Columns returns the columns of rows as rows, in new memory. There is at least one row, and all have the same length.
+func Columns[T any](rows [][]T) [][]T {
+	columns := make([][]T, len(rows[0]))
+	for j := range columns {
+		columns[j] = Map(rows, func(row []T) T { return row[j] })
+	}
+	return columns
+}

@@ -32,3 +32,18 @@ func TestCombine(t *testing.T) {
 		t.Errorf("%v of nothing", got)
 	}
 }
+
+func TestColumns(t *testing.T) {
+	rows := [][]int{{1, 2, 3}, {4, 5, 6}}
+	got := lists.Columns(rows)
+	if !slices.EqualFunc(got, [][]int{{1, 4}, {2, 5}, {3, 6}}, slices.Equal) {
+		t.Errorf("%v", got)
+	}
+	got[0][0] = 9
+	if rows[0][0] != 1 {
+		t.Error("columns share memory with rows")
+	}
+	if got := lists.Columns([][]int{{}}); len(got) != 0 {
+		t.Errorf("%v of an empty row", got)
+	}
+}

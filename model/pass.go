@@ -68,7 +68,7 @@ type pass struct {
 
 // forward returns the pass from the first frame to the last one: its spoken weights are the forward weights.
 func (s scaled) forward(say func(t int, row []api.Frac) []api.Frac) pass {
-	return s.pass(direction{upwards(len(s.recording)), s.start, transposed(s.move)}, frac.Sum, say)
+	return s.pass(direction{upwards(len(s.recording)), s.start, lists.Columns(s.move)}, frac.Sum, say)
 }
 
 // backward returns the pass from the last frame to the first one: its silent weights are the backward weights, if join adds.
@@ -135,13 +135,4 @@ func downwards(n int) iter.Seq[int] {
 			}
 		}
 	}
-}
-
-// transposed returns the columns of a square as rows.
-func transposed(square [][]api.Frac) [][]api.Frac {
-	columns := make([][]api.Frac, len(square))
-	for j := range columns {
-		columns[j] = lists.Map(square, func(row []api.Frac) api.Frac { return row[j] })
-	}
-	return columns
 }

@@ -47,6 +47,9 @@ func whole(n int) ratio {
 
 // reduce returns r in lowest terms.
 func (r ratio) reduce() ratio {
+	if r.d.isOne() {
+		return r
+	}
 	common := r.n.gcd(r.d)
 	if common.isOne() {
 		return r
@@ -123,11 +126,15 @@ func total(list ...ratio) ratio {
 	d := fold(natural.lcm, one(), bottoms...)
 	var gains, losses []natural
 	for _, r := range list {
-		scale, _ := d.divide(r.d)
+		n := r.n
+		if r.d.cmp(d) != 0 {
+			scale, _ := d.divide(r.d)
+			n = n.mul(scale)
+		}
 		if r.negative {
-			losses = append(losses, r.n.mul(scale))
+			losses = append(losses, n)
 		} else {
-			gains = append(gains, r.n.mul(scale))
+			gains = append(gains, n)
 		}
 	}
 	gain, loss := fold(natural.add, nil, gains...), fold(natural.add, nil, losses...)

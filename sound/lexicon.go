@@ -8,7 +8,7 @@ import (
 	"earshot/api"
 	"earshot/frac"
 	"earshot/lists"
-	"earshot/whole"
+	"earshot/words"
 )
 
 // Valid reports whether a lexicon is valid.
@@ -27,20 +27,8 @@ func Valid(l api.Lexicon) bool {
 // areEntries reports whether entries can make a lexicon, apart from their order and from the sums of their weights.
 func areEntries(entries []api.Entry) bool {
 	return len(entries) <= api.MaxEntries && !slices.ContainsFunc(entries, func(x api.Entry) bool {
-		return !isWord(x.Word) || !arePhones(x.Phones, mostSpelled) || frac.Sign(x.Weight) <= 0
+		return !words.Valid(x.Word) || !arePhones(x.Phones, mostSpelled) || frac.Sign(x.Weight) <= 0
 	})
-}
-
-func isWord(s string) bool {
-	if !whole.Within(len(s), 1, mostBytes) {
-		return false
-	}
-	for i := range len(s) {
-		if !whole.Within(int(s[i]), '!', '~') {
-			return false
-		}
-	}
-	return true
 }
 
 func compareEntries(a, b api.Entry) int {
